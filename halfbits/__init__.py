@@ -1,0 +1,1 @@
+"""Halfbits: nets of gates whose inputs may stand half settled."""

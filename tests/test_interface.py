@@ -1,0 +1,43 @@
+"""The interface: every name stands in the file under which the document lists it, with its arguments."""
+
+import importlib
+import inspect
+import unittest
+
+FUNCTIONS = {
+    "halfbits.words": {
+        "is_word": ["thing"],
+        "settlings": ["word"],
+        "is_within": ["word", "other"],
+        "joined": ["words"],
+        "met": ["word", "other"],
+    },
+    "halfbits.nets": {
+        "is_net": ["thing"],
+        "run": ["net", "word"],
+    },
+}
+
+
+class InterfaceTest(unittest.TestCase):
+    def test_functions_are_defined_where_they_are_listed(self):
+        for module_name, functions in FUNCTIONS.items():
+            module = importlib.import_module(module_name)
+            for name in functions:
+                with self.subTest(module=module_name, name=name):
+                    self.assertTrue(inspect.isfunction(getattr(module, name)))
+                    self.assertEqual(getattr(module, name).__module__, module_name)
+
+    def test_arguments_stand_in_their_order_under_their_names(self):
+        for module_name, functions in FUNCTIONS.items():
+            module = importlib.import_module(module_name)
+            for name, arguments in functions.items():
+                with self.subTest(module=module_name, name=name):
+                    parameters = inspect.signature(getattr(module, name)).parameters
+                    self.assertEqual(list(parameters), arguments)
+                    for parameter in parameters.values():
+                        self.assertIs(parameter.kind, inspect.Parameter.POSITIONAL_OR_KEYWORD)
+
+
+if __name__ == "__main__":
+    unittest.main()
