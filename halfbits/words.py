@@ -5,6 +5,7 @@ from halfbits.errors import NoMatch, NoWord, TooGreat
 SIGNS = "01?"
 MOST_BITS = 32
 MOST_OPEN_BITS = 8
+MOST_WORDS = 1000
 
 
 def is_word(thing):
@@ -22,8 +23,8 @@ def check_word(thing):
 
 def check_words(things):
     """Raise NoWord for what is no list of words, NoMatch for words of unlike numbers of bits."""
-    if not isinstance(things, list) or len(things) == 0:
-        raise NoWord("words stand in a list, at least one")
+    if not isinstance(things, list) or not 1 <= len(things) <= MOST_WORDS:
+        raise NoWord("words stand in a list, at least one and at most 1000")
     for thing in things:
         check_word(thing)
     check_bits(things)

@@ -138,6 +138,19 @@ class JoinedTest(BitCase):
         self.assertEqual(joined(["110"] + ["010"] * 999), "?10")
         self.assertEqual(joined(settled_words_of(9)), "?" * 9)
 
+    def test_number_of_words(self):
+        self.assertEqual(joined(["0"] * 1000), "0")
+        self.assertEqual(joined(["0"] * 999 + ["1"]), "?")
+        for words in (["0"] * 1001, ["01?"] * 1001, ["0"] * 1000 + ["1"], settled_words_of(10), ["?"] * 100000):
+            self.assert_raises_just(NoWord, joined, words)
+        self.assert_raises_just(NoWord, joined, [])
+
+    def test_too_many_words_come_ahead_of_unlike_numbers(self):
+        for words in (["0"] * 1000 + ["00"], ["00"] + ["0"] * 1000, ["0", "00"] * 501):
+            self.assert_raises_just(NoWord, joined, words)
+        for words in (["0"] * 999 + ["00"], ["00"] + ["0"] * 999, ["0", "00"] * 500):
+            self.assert_raises_just(NoMatch, joined, words)
+
     def test_what_is_no_list_of_words(self):
         for thing in [None, True, 0, "", "01", ("01",), ("0", "1"), (), {}, {"0": "1"}, {0: "0"}, []]:
             self.assert_raises_just(NoWord, joined, thing)
