@@ -8,9 +8,8 @@ MOST_INPUTS = 32
 MOST_GATES = 100000
 MOST_OUTS = 32
 PARTS = {"0": 1, "1": 1, "not": 2, "and": 3, "or": 3}
-CONTRARY = {"0": "1", "1": "0", "?": "?"}
-# What one input of such a gate settles, whatever the other one becomes.
-DECISIVE = {"and": "0", "or": "1"}
+# What such a gate of no inputs at all would tell.
+OF_NONE = {"and": "1", "or": "0"}
 
 
 def is_net(thing):
@@ -62,30 +61,88 @@ def run(net, word):
     check_word(word)
     if len(word) != net[0]:
         raise NoMatch("the word has another number of bits than the net has inputs")
-    return told(net, word)
+    return answers_at(net, [word])[0]
 
 
-def told(net, word):
-    """Return what run returns; the net and the word are not looked at again."""
-    _, gates, outs = net
-    bits = list(word)
+def answers_at(net, words):
+    """Return the list of what a net tells at each of some words; net and words are not looked at again.
+
+    The net goes through all words at once. What stands at a number is a pair of integers: the first one
+    has its bit k set if "1" stands there at words[k], the second one if "0" stands there, neither for "?".
+    """
+    n, gates, outs = net
+    stands = [(marked(words, at, "1"), marked(words, at, "0")) for at in range(n)]
+    everywhere = (1 << len(words)) - 1
     for gate in gates:
-        bits.append(gate_bit(gate, bits))
-    return "".join([bits[number] for number in outs])
+        stands.append(let_through(gate, stands, everywhere))
+    shown = [stands[number] for number in outs]
+    return ["".join([sign_at(pair, k) for pair in shown]) for k in range(len(words))]
 
 
-def gate_bit(gate, bits):
-    """Return what a gate lets through of the bits ahead of it."""
+def marked(words, at, bit):
+    """Return the integer whose bit k is set if words[k] has such a bit at a place."""
+    return sum([1 << k for k, word in enumerate(words) if word[at] == bit])
+
+
+def let_through(gate, stands, everywhere):
+    """Return the pair of what a gate lets through of the pairs ahead of it."""
     kind = gate[0]
+    if kind == "0":
+        return (0, everywhere)
+    if kind == "1":
+        return (everywhere, 0)
+    ones, zeros = stands[gate[1]]
     if kind == "not":
-        return CONTRARY[bits[gate[1]]]
-    if kind in DECISIVE:
-        return weighed(DECISIVE[kind], bits[gate[1]], bits[gate[2]])
-    return kind
+        return (zeros, ones)
+    other_ones, other_zeros = stands[gate[2]]
+    if kind == "and":
+        return (ones & other_ones, zeros | other_zeros)
+    return (ones | other_ones, zeros & other_zeros)
 
 
-def weighed(decisive, first, second):
-    """Return the decisive bit if one of two is it, what both are if they are alike, else "?"."""
-    if decisive in (first, second):
-        return decisive
-    return first if first == second else "?"
+def sign_at(pair, k):
+    """Return the sign that a pair has at the word with the number k."""
+    ones, zeros = pair
+    if (ones >> k) & 1:
+        return "1"
+    return "0" if (zeros >> k) & 1 else "?"
+
+
+class NetMaker:
+    """A net that is made gate by gate; a gate that stands already is not put again."""
+
+    def __init__(self, n):
+        self.n = n
+        self.numbers = {}
+
+    def put(self, gate):
+        """Put a gate behind the others unless it stands, and return its number."""
+        if gate not in self.numbers:
+            self.numbers[gate] = self.n + len(self.numbers)
+        return self.numbers[gate]
+
+    def gathered(self, kind, numbers):
+        """Return the number that tells the "and" or the "or" of what stands at some numbers."""
+        if len(numbers) == 0:
+            return self.put((OF_NONE[kind],))
+        told = numbers[0]
+        for number in numbers[1:]:
+            told = self.put((kind, told, number))
+        return told
+
+    def product(self, word):
+        """Return the number that tells the product of the settled bits of a word of n bits."""
+        parts = [
+            at if bit == "1" else self.put(("not", at))
+            for at, bit in enumerate(word)
+            if bit != "?"
+        ]
+        return self.gathered("and", parts)
+
+    def sum_of(self, words):
+        """Return the number that tells the "or" of the products of words of n bits."""
+        return self.gathered("or", [self.product(word) for word in words])
+
+    def net(self, outs):
+        """Return the net that was made, with such outs."""
+        return (self.n, tuple(self.numbers), tuple(outs))

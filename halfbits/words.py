@@ -15,6 +15,11 @@ def is_word(thing):
     return all([sign in SIGNS for sign in thing])
 
 
+def is_word_of(thing, bits):
+    """Tell whether a thing is a word of so many bits."""
+    return is_word(thing) and len(thing) == bits
+
+
 def check_word(thing):
     """Raise NoWord for what is no word."""
     if not is_word(thing):
@@ -49,11 +54,32 @@ def settlings(word):
     check_word(word)
     if word.count("?") > MOST_OPEN_BITS:
         raise TooGreat("settlings are listed for words with at most 8 bits that are not settled")
+    return spelled(["01" if sign == "?" else sign for sign in word])
+
+
+def spelled(choices):
+    """Return the list of all words with one sign of each choice, ascending if the signs of each one are."""
     starts = [""]
-    for sign in word:
-        bits = "01" if sign == "?" else sign
-        starts = [start + bit for start in starts for bit in bits]
+    for signs in choices:
+        starts = [start + sign for start in starts for sign in signs]
     return starts
+
+
+def all_words(bits):
+    """Return the ascending list of all words of so many bits."""
+    return spelled([SIGNS] * bits)
+
+
+def settled_words(bits):
+    """Return the ascending list of all settled words of so many bits."""
+    return spelled(["01"] * bits)
+
+
+def wider_words(word):
+    """Return the ascending list of the words with just one "?" more that a word is within."""
+    places = [at for at, sign in enumerate(word) if sign != "?"]
+    # A "?" stands behind "0" and "1" in the order, so the word that has it last comes first.
+    return [word[:at] + "?" + word[at + 1:] for at in places[::-1]]
 
 
 def is_within(word, other):

@@ -3,6 +3,16 @@
 import itertools
 import unittest
 
+NO_WORDS = [
+    None, True, False, 0, 1, -10 ** 12, "", "2", "x", "01x", "0 1", "0\n", "0" * 33, "?" * 33, "0" * 1000,
+    ("0",), ["0"], ("0", "1"), {}, {"0": "1"}, (), [],
+]
+NO_NETS = [
+    (), (1,), (1, ()), (1, (), (0,), ()), [1, (), (0,)], (1, [], (0,)), (1, (), [0]), (1, (["not", 0],), (1,)),
+    {}, "net", None, True, 3, (None, (), (0,)), ("1", (), (0,)), (1, None, (0,)), (1, (), None), (1, {}, (0,)),
+    (1, (), 0), (1, (), "0"), (1, "", (0,)), (1, (), ("0",)), (1, (), (None,)), (1, (), ((0,),)), ((1,), (), (0,)),
+]
+
 
 class BitCase(unittest.TestCase):
     """A test case that asks for one very class of error."""
@@ -31,6 +41,50 @@ def settlings_by_definition(word):
         for settled in settled_words_of(len(word))
         if all(sign in ("?", bit) for sign, bit in zip(word, settled))
     ]
+
+
+def is_within_by_definition(word, other):
+    """Whether all settlings of a word are settlings of the other."""
+    return set(settlings_by_definition(word)) <= set(settlings_by_definition(other))
+
+
+def meet(word, other):
+    """Whether two words have a common settling."""
+    return bool(set(settlings_by_definition(word)) & set(settlings_by_definition(other)))
+
+
+def joined_by_definition(words):
+    """The signs that all words have at each bit, else "?"."""
+    return "".join(signs[0] if len(set(signs)) == 1 else "?" for signs in zip(*words))
+
+
+def made_net(source, n, many):
+    """A net with n inputs and so many gates, picked by a source of numbers."""
+    gates = []
+    for own in range(n, n + many):
+        kind = source.choice(["0", "1", "not", "and", "and", "or", "or"])
+        parts = {"0": 0, "1": 0, "not": 1}.get(kind, 2)
+        gates.append((kind, *[source.randrange(own) for _ in range(parts)]))
+    return (n, tuple(gates), tuple(source.randrange(n + many) for _ in range(source.randint(1, 5))))
+
+
+def made_table(source, n, bits):
+    """A table with n inputs and so many outs, picked by a source of numbers."""
+    return (n, tuple("".join(source.choice("01") for _ in range(bits)) for _ in range(2 ** n)))
+
+
+def made_telling(source, n, bits):
+    """A natural telling with n inputs and so many outs, picked by a source of numbers.
+
+    What the words with one "?" less tell is joined, and now and then left open where it need not be.
+    """
+    told = dict(zip(settled_words_of(n), made_table(source, n, bits)[1]))
+    for word in sorted(words_of(n), key=lambda word: word.count("?")):
+        if "?" in word:
+            narrower = [word[:at] + bit + word[at + 1:] for at in range(n) if word[at] == "?" for bit in "01"]
+            sure = joined_by_definition([told[other] for other in narrower])
+            told[word] = "".join("?" if source.random() < 0.2 else sign for sign in sure)
+    return (n, tuple(told[word] for word in words_of(n)))
 
 
 def nested(kind, depth):

@@ -14,6 +14,29 @@ EXAMPLES = (
 >>> [run(net, '10'), run(net, '?0')]
 ['1', '?']
 """,
+    """
+>>> from halfbits.tables import first_parting, table_of
+>>> [table_of((2, (('and', 0, 1),), (2,))), first_parting((1, (('not', 0), ('or', 0, 1)), (2,)), (1, (('1',),), (1,)))]
+[(2, ('0', '0', '0', '1')), '?']
+""",
+    """
+>>> from halfbits.sharp import is_sharp_sum, primes, surely
+>>> table = (3, ('0', '0', '0', '1', '1', '0', '1', '1'))
+>>> [surely(table, '11?'), primes(table, 0, '1'), is_sharp_sum(table, 0, ['1?0', '?11'])]
+['1', ['11?', '1?0', '?11'], False]
+""",
+    """
+>>> from halfbits.tellings import why_not
+>>> [why_not((1, ('0', '1', '?'))), why_not((1, ('0', '1', '0')))]
+[None, ('1', '?')]
+""",
+    """
+>>> from halfbits.demands import first_missed, picks_of
+>>> demand = (1, 1, (('?', ('0', '1')), ('0', ('0',)), ('1', ('1',))))
+>>> other = (1, 1, (('?', ('0', '?')), ('0', ('0',)), ('1', ('1',))))
+>>> [picks_of(demand), picks_of(other), first_missed(demand, (1, (), (0,)))]
+[None, (1, 0, 0), 0]
+""",
 )
 
 

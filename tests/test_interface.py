@@ -16,6 +16,32 @@ FUNCTIONS = {
         "is_net": ["thing"],
         "run": ["net", "word"],
     },
+    "halfbits.tables": {
+        "is_table": ["thing"],
+        "is_telling": ["thing"],
+        "table_of": ["net"],
+        "telling_of": ["net"],
+        "first_parting": ["net", "other"],
+        "first_duller": ["net", "other"],
+    },
+    "halfbits.sharp": {
+        "surely": ["table", "word"],
+        "dull_word": ["net"],
+        "primes": ["table", "out", "bit"],
+        "sum_net": ["n", "sums"],
+        "is_sharp_sum": ["table", "out", "words"],
+        "sharp_net": ["table"],
+    },
+    "halfbits.tellings": {
+        "why_not": ["telling"],
+        "net_of": ["telling"],
+    },
+    "halfbits.demands": {
+        "is_demand": ["thing"],
+        "first_missed": ["demand", "net"],
+        "picks_of": ["demand"],
+        "picked_net": ["demand", "picks"],
+    },
 }
 
 

@@ -6,7 +6,7 @@ import unittest
 
 from halfbits.errors import NoMatch, NoNet, NoWord
 from halfbits.nets import is_net, run
-from tests.support import BitCase, odd_things, settlings_by_definition, words_of
+from tests.support import NO_NETS, BitCase, made_net, odd_things, settlings_by_definition, words_of
 
 AND = {
     "00": "0", "01": "0", "0?": "0",
@@ -20,26 +20,10 @@ OR = {
 }
 NOT = {"0": "1", "1": "0", "?": "?"}
 
-NO_NETS = [
-    (), (1,), (1, ()), (1, (), (0,), ()), [1, (), (0,)], (1, [], (0,)), (1, (), [0]), (1, (["not", 0],), (1,)),
-    {}, "net", None, True, 3, (None, (), (0,)), ("1", (), (0,)), (1, None, (0,)), (1, (), None), (1, {}, (0,)),
-    (1, (), 0), (1, (), "0"), (1, "", (0,)), (1, (), ("0",)), (1, (), (None,)), (1, (), ((0,),)), ((1,), (), (0,)),
-]
-
 
 def one_gate(*gate):
     """A net with two inputs that shows its only gate."""
     return (2, (gate,), (2,))
-
-
-def made_net(source, n, many):
-    """A net with n inputs and so many gates, picked by a source of numbers."""
-    gates = []
-    for own in range(n, n + many):
-        kind = source.choice(["0", "1", "not", "and", "and", "or", "or"])
-        parts = {"0": 0, "1": 0, "not": 1}.get(kind, 2)
-        gates.append((kind, *[source.randrange(own) for _ in range(parts)]))
-    return (n, tuple(gates), tuple(source.randrange(n + many) for _ in range(source.randint(1, 5))))
 
 
 def told_by_definition(net, number, word):

@@ -5,12 +5,7 @@ import unittest
 
 from halfbits.errors import NoMatch, NoWord, TooGreat
 from halfbits.words import is_within, is_word, joined, met, settlings
-from tests.support import BitCase, odd_things, settled_words_of, settlings_by_definition, words_of
-
-NO_WORDS = [
-    None, True, False, 0, 1, -10 ** 12, "", "2", "x", "01x", "0 1", "0\n", "0" * 33, "?" * 33, "0" * 1000,
-    ("0",), ["0"], ("0", "1"), {}, {"0": "1"}, (), [],
-]
+from tests.support import NO_WORDS, BitCase, odd_things, settled_words_of, settlings_by_definition, words_of
 
 
 class IsWordTest(BitCase):
