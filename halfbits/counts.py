@@ -1,4 +1,4 @@
-"""Integers within a range, as all modules ask for them."""
+"""Integers within a range, and integers whose bits mark numbers, as several modules ask for them."""
 
 
 def is_count(thing, least, most):
@@ -7,3 +7,8 @@ def is_count(thing, least, most):
     if isinstance(thing, bool) or not isinstance(thing, int):
         return False
     return least <= thing <= most
+
+
+def numbers_in(mask):
+    """Return the ascending list of the numbers of the bits that are set in an integer."""
+    return [number for number in range(mask.bit_length()) if (mask >> number) & 1]

@@ -1,6 +1,6 @@
 """Demands, and the nets that meet them."""
 
-from halfbits.counts import is_count
+from halfbits.counts import is_count, numbers_in
 from halfbits.errors import NoDemand, NoMatch, NoPicks
 from halfbits.nets import answers_at, check_net
 from halfbits.sharp import net_of_sums
@@ -104,11 +104,6 @@ def fits_with(word, lets, wishes):
 def fitting(let, others):
     """Return the integer whose bit b is set if a let and others[b] have a common settling."""
     return sum([1 << number for number, other in enumerate(others) if met(let, other) is not None])
-
-
-def numbers_in(mask):
-    """Return the ascending list of the numbers of the bits that are set in an integer."""
-    return [number for number in range(MOST_LETS) if (mask >> number) & 1]
 
 
 def is_solvable(left, fits):

@@ -12,6 +12,15 @@ NO_NETS = [
     {}, "net", None, True, 3, (None, (), (0,)), ("1", (), (0,)), (1, None, (0,)), (1, (), None), (1, {}, (0,)),
     (1, (), 0), (1, (), "0"), (1, "", (0,)), (1, (), ("0",)), (1, (), (None,)), (1, (), ((0,),)), ((1,), (), (0,)),
 ]
+NO_DEMANDS = [
+    (1, 1, ()), (1, 1, (("0", ()),)), (1, 1, [("0", ("0",))]), [1, 1, (("0", ("0",)),)], (1, 1, (["0", ("0",)],)),
+    (1, 1, (("0", ["0"]),)), (1, 1, (("0", "0"),)), (1, 1, (("0", ("0", "0")),)), (1, 1, (("00", ("0",)),)),
+    (1, 1, (("0", ("00",)),)), (True, 1, (("0", ("0",)),)), (1, True, (("0", ("0",)),)), (0, 1, (("0", ("0",)),)),
+    (5, 1, (("00000", ("0",)),)), (1, 4, (("0", ("0000",)),)), (1, 1, (("0", ("0",)), ("0", ("1",)))), None, "01",
+    (1, 1, (("0", ("0",)),), ()), (1, 1, (("0", ("0",), ()),)), (1, 1, (("0",),)), (1, 1, ("01",)), (1, 1, None),
+    (1, 1), (1, (("0", ("0",)),)), (1, 1, {"0": ("0",)}), (1, 1, (None,)), (1, 1, (("0", None),)), (1, 1, ((0, ("0",)),)),
+    (1, 1, (("0", (0,)),)), (1, 1, (("0", (None,)),)), (1, 1, (("x", ("0",)),)), (1, 1, (("0", ("x",)),)), 1, True,
+]
 
 
 class BitCase(unittest.TestCase):
@@ -85,6 +94,19 @@ def made_telling(source, n, bits):
             sure = joined_by_definition([told[other] for other in narrower])
             told[word] = "".join("?" if source.random() < 0.2 else sign for sign in sure)
     return (n, tuple(told[word] for word in words_of(n)))
+
+
+def signs_exchanged(word, at):
+    """A word with 0 exchanged for 1 at a place."""
+    return word[:at] + {"0": "1", "1": "0", "?": "?"}[word[at]] + word[at + 1:]
+
+
+def demand_with(demand, word_change, let_change):
+    """A demand with all its words and all its lets changed."""
+    n, m, wishes = demand
+    return (n, m, tuple(
+        (word_change(word), tuple(let_change(let) for let in lets)) for word, lets in wishes
+    ))
 
 
 def nested(kind, depth):

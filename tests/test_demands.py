@@ -9,21 +9,12 @@ from halfbits.errors import NoDemand, NoMatch, NoNet, NoPicks
 from halfbits.nets import is_net, run
 from halfbits.tellings import net_of
 from tests.support import (
-    NO_NETS, NO_WORDS, BitCase, is_within_by_definition, made_net, made_telling, meet, odd_things,
-    settlings_by_definition, words_of,
+    NO_DEMANDS, NO_NETS, NO_WORDS, BitCase, demand_with, is_within_by_definition, made_net, made_telling, meet,
+    odd_things, settlings_by_definition, signs_exchanged, words_of,
 )
 
 CLOSED = (1, 1, (("?", ("0", "1")), ("0", ("0",)), ("1", ("1",))))
 OPEN = (1, 1, (("?", ("0", "?")), ("0", ("0",)), ("1", ("1",))))
-NO_DEMANDS = [
-    (1, 1, ()), (1, 1, (("0", ()),)), (1, 1, [("0", ("0",))]), [1, 1, (("0", ("0",)),)], (1, 1, (["0", ("0",)],)),
-    (1, 1, (("0", ["0"]),)), (1, 1, (("0", "0"),)), (1, 1, (("0", ("0", "0")),)), (1, 1, (("00", ("0",)),)),
-    (1, 1, (("0", ("00",)),)), (True, 1, (("0", ("0",)),)), (1, True, (("0", ("0",)),)), (0, 1, (("0", ("0",)),)),
-    (5, 1, (("00000", ("0",)),)), (1, 4, (("0", ("0000",)),)), (1, 1, (("0", ("0",)), ("0", ("1",)))), None, "01",
-    (1, 1, (("0", ("0",)),), ()), (1, 1, (("0", ("0",), ()),)), (1, 1, (("0",),)), (1, 1, ("01",)), (1, 1, None),
-    (1, 1), (1, (("0", ("0",)),)), (1, 1, {"0": ("0",)}), (1, 1, (None,)), (1, 1, (("0", None),)), (1, 1, ((0, ("0",)),)),
-    (1, 1, (("0", (0,)),)), (1, 1, (("0", (None,)),)), (1, 1, (("x", ("0",)),)), (1, 1, (("0", ("x",)),)), 1, True,
-]
 
 
 def made_demand(source, n, m, wishes, lets):
@@ -91,19 +82,6 @@ def wide_demands(seed, many):
             (word, tuple(source.sample(lets, source.randint(2, min(6, len(lets))))))
             for word in source.sample(words, source.randint(4, 9))
         ))
-
-
-def signs_exchanged(word, at):
-    """A word with 0 exchanged for 1 at a place."""
-    return word[:at] + {"0": "1", "1": "0", "?": "?"}[word[at]] + word[at + 1:]
-
-
-def demand_with(demand, word_change, let_change):
-    """A demand with all its words and all its lets changed."""
-    n, m, wishes = demand
-    return (n, m, tuple(
-        (word_change(word), tuple(let_change(let) for let in lets)) for word, lets in wishes
-    ))
 
 
 class IsDemandTest(BitCase):

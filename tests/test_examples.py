@@ -37,6 +37,28 @@ EXAMPLES = (
 >>> [picks_of(demand), picks_of(other), first_missed(demand, (1, (), (0,)))]
 [None, (1, 0, 0), 0]
 """,
+    """
+>>> from halfbits.stores import reads, rows_of
+>>> [reads('low', '?', 2), rows_of(('high', 'plain'), 1, '?0')]
+[['00', '01', '0?', '11', '?1'], ['00', '10', '?0']]
+""",
+    """
+>>> from halfbits.rounds import least_rounds, outlines_of
+>>> demand = (1, 2, (('0', ('00',)), ('1', ('11',)), ('?', ('0?', '?1'))))
+>>> [least_rounds(demand), outlines_of(demand, 1), outlines_of(demand, 2)]
+[2, None, ((('0', '00'), ('1', '11')), (('00', '01', '11'),))]
+""",
+    """
+>>> from halfbits.refusals import shows_refusal
+>>> demand = (1, 1, (('0', ('0',)), ('1', ('1',)), ('?', ('0', '1'))))
+>>> [shows_refusal(demand, 3, ((('0', '0', 2),), None)), shows_refusal(demand, 3, ((), None))]
+[True, False]
+""",
+    """
+>>> from halfbits.codes import losses, read_as, reflected
+>>> [losses(('00', '01', '10'), True), read_as(reflected(2), '?1')]
+[[1], [1, 2]]
+""",
 )
 
 

@@ -71,6 +71,25 @@ class FormTest(unittest.TestCase):
                         self.assertIn(alias.name, defined[node.module], path.name)
                         self.assertIsNone(alias.asname)
 
+    def test_imports_are_used(self):
+        for path, _, tree in sources():
+            used = {node.id for node in ast.walk(tree) if isinstance(node, ast.Name)}
+            for node in tree.body:
+                if isinstance(node, ast.ImportFrom):
+                    self.assertEqual({alias.name for alias in node.names} - used, set(), path.name)
+
+    def test_no_name_stands_for_an_import_too(self):
+        for path, _, tree in sources():
+            imported = {alias.name for node in tree.body if isinstance(node, ast.ImportFrom) for alias in node.names}
+            defined = {node.name for node in tree.body if isinstance(node, (ast.FunctionDef, ast.ClassDef))}
+            bound = {node.arg for node in ast.walk(tree) if isinstance(node, ast.arg)}
+            bound |= {
+                node.id for node in ast.walk(tree) if isinstance(node, ast.Name) and isinstance(node.ctx, ast.Store)
+            }
+            classes = {node.name for node in tree.body if isinstance(node, ast.ClassDef)}
+            self.assertEqual(imported & (defined | bound), set(), path.name)
+            self.assertEqual(classes & bound, set(), path.name)
+
     def test_statements_and_expressions(self):
         for path, _, tree in sources():
             for node in ast.walk(tree):

@@ -42,6 +42,27 @@ FUNCTIONS = {
         "picks_of": ["demand"],
         "picked_net": ["demand", "picks"],
     },
+    "halfbits.stores": {
+        "reads": ["kind", "bit", "r"],
+        "rows_of": ["kinds", "r", "word"],
+        "first_failing": ["demand", "plan"],
+    },
+    "halfbits.rounds": {
+        "shows_outlines": ["demand", "r", "thing"],
+        "outlines_of": ["demand", "r"],
+        "least_rounds": ["demand"],
+        "plan_of": ["demand", "r"],
+    },
+    "halfbits.refusals": {
+        "refusal_of": ["demand", "r"],
+        "shows_refusal": ["demand", "r", "thing"],
+    },
+    "halfbits.codes": {
+        "losses": ["code", "is_ring"],
+        "read_as": ["code", "word"],
+        "reflected": ["bits"],
+        "conversion": ["code", "other"],
+    },
 }
 
 
