@@ -7,10 +7,11 @@ import unittest
 from halfbits.codes import conversion, reflected
 from halfbits.demands import picks_of
 from halfbits.errors import NoCount, NoDemand
+from halfbits.refusals import refusal_of
 from halfbits.rounds import least_rounds, outlines_of, plan_of, shows_outlines
 from halfbits.stores import first_failing, is_plan
 from tests.halves import (
-    LONG, NO_COUNTS_OF_ROUNDS, NO_HALF_DEMANDS, RING, TWO_DEEP, all_outlines, half_words_of,
+    LONG, NO_COUNTS_OF_ROUNDS, NO_HALF_DEMANDS, RING, SECOND, TWO_DEEP, all_outlines, half_words_of,
     has_outlines_by_definition, least_by_definition, made_half_demand, made_tight_demand, variants,
 )
 from tests.support import (
@@ -169,6 +170,18 @@ class OutlinesOfTest(BitCase):
                 found[(r, expected)] = found.get((r, expected), 0) + 1
         self.assertGreater(min(found.values()), 10)
         self.assertEqual(len(found), 6)
+
+    def test_a_choice_that_goes_with_no_others(self):
+        self.assertEqual({outputs[0] for outputs, _ in all_outlines(SECOND, 1)}, {("00", "11")})
+        for word_at, let_at in itertools.product(itertools.product((0, 1), repeat=2), repeat=2):
+            demand = SECOND
+            for at in (0, 1):
+                if word_at[at]:
+                    demand = demand_with(demand, lambda word: signs_exchanged(word, at), str)
+                if let_at[at]:
+                    demand = demand_with(demand, str, lambda let: signs_exchanged(let, at))
+            self.assertIs(shows_outlines(demand, 1, outlines_of(demand, 1)), True)
+            self.assertIsNone(refusal_of(demand, 1))
 
     def test_demands_of_three_inputs(self):
         source = random.Random(82)
