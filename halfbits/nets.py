@@ -58,6 +58,11 @@ def check_net(thing):
 def run(net, word):
     """Return the word of what stands at the outs of a net when its inputs have the bits of a word."""
     check_net(net)
+    return told_at(net, word)
+
+
+def told_at(net, word):
+    """Return what run returns; the net is not looked at again."""
     check_word(word)
     if len(word) != net[0]:
         raise NoMatch("the word has another number of bits than the net has inputs")
@@ -142,6 +147,14 @@ class NetMaker:
     def sum_of(self, words):
         """Return the number that tells the "or" of the products of words of n bits."""
         return self.gathered("or", [self.product(word) for word in words])
+
+    def placed(self, net, numbers):
+        """Put a net over what stands at some numbers, taken as its inputs, and return the numbers of its outs."""
+        _, gates, outs = net
+        own = list(numbers)
+        for gate in gates:
+            own.append(self.put((gate[0], *[own[number] for number in gate[1:]])))
+        return [own[number] for number in outs]
 
     def net(self, outs):
         """Return the net that was made, with such outs."""

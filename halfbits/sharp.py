@@ -38,7 +38,12 @@ def sure_answers(table):
 
 def dull_word(net):
     """Return the first word at which a net does not tell all that its table surely tells, or None."""
-    sure = sure_answers(table_of(net))
+    return first_dull(table_of(net), net)
+
+
+def first_dull(table, net):
+    """Return the first word at which a net does not tell all that its table surely tells, or None."""
+    sure = sure_answers(table)
     for word, told in zip(list(sure), answers_at(net, list(sure))):
         if told != sure[word]:
             return word

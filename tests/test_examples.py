@@ -2,6 +2,8 @@
 
 import unittest
 
+from halfbits.errors import BitError
+
 EXAMPLES = (
     """
 >>> from halfbits.words import is_within, joined, met, settlings
@@ -59,25 +61,72 @@ EXAMPLES = (
 >>> [losses(('00', '01', '10'), True), read_as(reflected(2), '?1')]
 [[1], [1, 2]]
 """,
+    """
+>>> from halfbits.nets import run
+>>> from halfbits.sorting import order_net, place_of, word_at
+>>> [place_of('0?1'), word_at(3, 7), run(order_net(2), '1?01')]
+[3, '?10', '011?']
+""",
+    """
+>>> from halfbits.sorting import first_unsorted, sorted_by
+>>> [sorted_by(((0, 1), (1, 2), (0, 1)), ['10', '?1', '00']), first_unsorted(3, ((0, 1), (1, 2)))]
+[['00', '?1', '10'], '110']
+""",
+    """
+>>> from halfbits.boards import Board
+>>> board = Board(2)
+>>> [board.add(('not', 0)), board.show((2,)), board.run('?1'), board.dull_word(), len(board)]
+[2, None, '?', None, 1]
+""",
+    """
+>>> from halfbits.boards import Board, trial
+>>> trial(Board(1), [('add', ('not', 0)), [('show', (1,)), ('run', '0')], ('run', '0')])
+[1, [1, '1'], '0']
+""",
+    """
+>>> from halfbits.boards import Board
+>>> board = Board(1)
+>>> board.drop()
+raises NoDrop
+""",
+    """
+>>> from halfbits.benches import Bench
+>>> bench = Bench(1, 2)
+>>> bench.tell('0', ('00',))
+>>> bench.tell('1', ('11',))
+>>> bench.tell('?', ('0?', '?1'))
+>>> [bench.least(), bench.ask(1)[0], len(bench)]
+[2, 'refusal', 3]
+""",
+    """
+>>> from halfbits.machines import outcomes
+>>> machine = (('low',), ('plain',), (2, (), (0, 1)))
+>>> [outcomes(machine, '?', 1), outcomes(machine, '?', 2)]
+[['0'], ['0', '1', '?']]
+""",
 )
 
 
 def answer_of(example):
-    """What the last line of an example returns, and what the document says of it."""
+    """What the last line of an example returns or raises, and what the document says of it."""
     *lines, expected = example.strip().split("\n")
     rows = [line.removeprefix(">>> ") for line in lines]
     names = {}
     for row in rows[:-1]:
         exec(row, names)
-    return eval(rows[-1], names), expected
+    try:
+        return repr(eval(rows[-1], names)), expected
+    except BitError as error:
+        return "raises " + type(error).__name__, expected
 
 
 class ExamplesTest(unittest.TestCase):
     def test_examples(self):
+        self.assertEqual(len(EXAMPLES), 17)
         for example in EXAMPLES:
             with self.subTest(example=example):
                 answer, expected = answer_of(example)
-                self.assertEqual(repr(answer), expected)
+                self.assertEqual(answer, expected)
 
 
 if __name__ == "__main__":

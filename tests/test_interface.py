@@ -63,6 +63,48 @@ FUNCTIONS = {
         "reflected": ["bits"],
         "conversion": ["code", "other"],
     },
+    "halfbits.sorting": {
+        "place_of": ["word"],
+        "word_at": ["bits", "place"],
+        "order_net": ["bits"],
+        "sorted_by": ["row", "words"],
+        "first_unsorted": ["k", "row"],
+    },
+    "halfbits.boards": {
+        "trial": ["board", "things"],
+    },
+    "halfbits.machines": {
+        "is_machine": ["thing"],
+        "outcomes": ["machine", "word", "r"],
+        "first_wrong": ["demand", "machine", "r"],
+        "first_unlike": ["machine", "other", "r"],
+        "unrolled": ["machine", "r"],
+    },
+}
+METHODS = {
+    ("halfbits.boards", "Board"): {
+        "__init__": ["n"],
+        "add": ["gate"],
+        "turn": ["number", "gate"],
+        "show": ["outs"],
+        "drop": [],
+        "undo": [],
+        "net": [],
+        "run": ["word"],
+        "dull_word": [],
+        "__len__": [],
+        "__enter__": [],
+    },
+    ("halfbits.benches", "Bench"): {
+        "__init__": ["n", "m"],
+        "tell": ["word", "lets"],
+        "withdraw": ["word"],
+        "undo": [],
+        "demand": [],
+        "ask": ["r"],
+        "least": [],
+        "__len__": [],
+    },
 }
 
 
@@ -84,6 +126,19 @@ class InterfaceTest(unittest.TestCase):
                     self.assertEqual(list(parameters), arguments)
                     for parameter in parameters.values():
                         self.assertIs(parameter.kind, inspect.Parameter.POSITIONAL_OR_KEYWORD)
+
+    def test_classes_and_their_methods_are_defined_where_they_are_listed(self):
+        for (module_name, class_name), methods in METHODS.items():
+            listed = getattr(importlib.import_module(module_name), class_name)
+            self.assertTrue(inspect.isclass(listed))
+            self.assertEqual(listed.__module__, module_name)
+            for name, arguments in methods.items():
+                with self.subTest(module=module_name, name=name):
+                    parameters = inspect.signature(vars(listed)[name]).parameters
+                    self.assertEqual(list(parameters), ["self", *arguments])
+                    for parameter in parameters.values():
+                        self.assertIs(parameter.kind, inspect.Parameter.POSITIONAL_OR_KEYWORD)
+                        self.assertIs(parameter.default, inspect.Parameter.empty)
 
 
 if __name__ == "__main__":
