@@ -34,7 +34,8 @@ class Bench:
         self.check_told(word)
         if not are_lets(lets, self.m):
             raise NoLets("lets are a tuple of 1 to 8 different words with a bit for each out")
-        self.stand({**self.standing.held, word: lets})
+        held = self.standing.held
+        self.stand({**held, word: lets})
 
     def withdraw(self, word):
         """Take the wish of a word away."""

@@ -153,7 +153,7 @@ class NetMaker:
         _, gates, outs = net
         own = list(numbers)
         for gate in gates:
-            own.append(self.put((gate[0], *[own[number] for number in gate[1:]])))
+            own.append(self.put(gate[:1] + tuple([own[number] for number in gate[1:]])))
         return [own[number] for number in outs]
 
     def net(self, outs):

@@ -12,11 +12,12 @@ MOST_STEPS = 7
 
 def half_wishes(demand):
     """Return the list of the wishes whose words have a "?", each as (number, one settling, the other, lets)."""
-    return [
-        (number, *settlings(word), lets)
-        for number, (word, lets) in enumerate(demand[2])
-        if "?" in word
-    ]
+    found = []
+    for number, (word, lets) in enumerate(demand[2]):
+        if "?" in word:
+            low, high = settlings(word)
+            found.append((number, low, high, lets))
+    return found
 
 
 def choices_of(demand):

@@ -12,14 +12,9 @@ LEAST_WORDS = 2
 MOST_WORDS = 8
 
 
-def is_short_word(thing):
-    """Tell whether a thing is a word of at most 16 bits."""
-    return is_word(thing) and len(thing) <= MOST_PLACE_BITS
-
-
 def place_of(word):
     """Return the place of a word in the order, or None for a word that has none."""
-    if not is_short_word(word):
+    if not is_word(word) or len(word) > MOST_PLACE_BITS:
         raise NoWord("words with places have at most 16 bits")
     if word.count("?") > 1:
         return None
@@ -135,7 +130,7 @@ def check_placed_words(things):
     if not isinstance(things, list) or not LEAST_WORDS <= len(things) <= MOST_WORDS:
         raise NoWord("the words to be sorted stand in a list, from 2 to 8 of them")
     for thing in things:
-        if not is_short_word(thing) or place_of(thing) is None:
+        if place_of(thing) is None:
             raise NoWord("a word to be sorted has a place")
     check_bits(things)
 

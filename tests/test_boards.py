@@ -559,6 +559,7 @@ class TrialTest(BitCase):
             ("add",), ("add", ("0",), 1), ("run",), ("show",), ("turn",), ("turn", 5), ("turn", (1, 2, 3)), ("turn", (1,)),
             ("turn", [1, ("0",)]), ("turn", None), ("turn", 1, ("0",)), ("turn", "1("), ("net", 0), ("none", ("0",)),
             (None, None), (("add",), ("0",)), (["add"], ("0",)), {"add": ("0",)}, {}, "ad", ("Add", ("0",)), (True, 1),
+            ("turned", (1, ("0",))), ("", (1, ("0",))), (None, (1, ("0",))),
         ]
         board = Board(1)
         for thing in wrong + [thing for thing in odd_things() if not isinstance(thing, list)]:

@@ -328,6 +328,11 @@ class UnrolledTest(BitCase):
         self.assertEqual(run(made, "????????"), "0")
         machine = (("low",), ("plain",), (2, tuple(("not", number) for number in range(1, 20000)), (20000, 20000)))
         self.assert_raises_just(TooGreat, unrolled, machine, 8)
+        self.assert_raises_just(TooGreat, unrolled, machine, 6)
+        self.assertIs(is_net(unrolled(machine, 4)), True)
+        # With the gate for the "0" that the inner store holds at first there would be one gate too many.
+        machine = (("low",), ("plain",), (2, tuple(("not", number) for number in range(1, 100001)), (100001, 100001)))
+        self.assert_raises_just(TooGreat, unrolled, machine, 1)
         self.assert_raises_just(NoCount, unrolled, machine, 9)
 
     def test_inner_stores_that_are_not_plain(self):
