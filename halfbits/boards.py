@@ -64,7 +64,7 @@ class Board:
         return self
 
     def __exit__(self, kind, value, trace):
-        """End a stretch: the board is as it was at its beginning."""
+        # Without a return an error goes through.
         self.standing = self.stretch.begun
         self.stretch = self.stretch.around
 
